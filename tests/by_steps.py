@@ -1,0 +1,34 @@
+"""Finds what can come to be by doing the steps themselves, beside the way that the program goes."""
+
+
+def with_made_ones(subjects, edges, how_many):
+    """The graph after each subject has made so many subjects with all rights to them."""
+    actors = list(subjects)
+    more = set(edges)
+    for subject in subjects:
+        for turn in range(how_many):
+            made = ("made", subject, turn)
+            actors.append(made)
+            more.update((subject, made, r) for r in range(4))
+    return actors, more
+
+
+def next_steps(actors, edges):
+    """Every edge that one taking or giving brings about."""
+    brought = set()
+    for x, y, how in edges:
+        if x in actors and how == 0:
+            brought.update((x, z, r) for a, z, r in edges if a == y and z != x)
+        if x in actors and how == 1:
+            brought.update((y, z, r) for a, z, r in edges if a == x and z != y)
+    return brought
+
+
+def edges_that_can_be(subjects, edges, how_many=2):
+    """More rights and more subjects never stand in a step's way, so all of them are made and nothing is dropped."""
+    actors, reached = with_made_ones(subjects, edges, how_many)
+    while True:
+        brought = next_steps(actors, reached) - reached
+        if not brought:
+            return reached
+        reached |= brought

@@ -1,0 +1,71 @@
+"""The interface: how calls are handed in, how answers are given back, what stays as it was."""
+
+import unittest
+
+from asking import BIG, THIRTY, ask_all, can, cut, give, make, new, put, take
+from takegive.graph import answers
+
+SESSION = [new(1), make(1, 1, [0, 1]), new(0), put(2, 3, 2), take(1, 2, 3, 2), cut(1, 3, 2), can(2, 1, 3),
+           give(1, 2, 3, 2), put(1, 3, 3), give(1, 2, 3, 3), cut(9, 9, 9), can(3, 2, 3)]
+SESSION_ANSWERS = [1, 2, 3, 3, 4, 3, 1, -6, 4, 5, -1, 1]
+
+
+class Reading(unittest.TestCase):
+    def test_how_many_stands_ahead_of_each_answer(self):
+        self.assertEqual(answers([0, 1]), [1, 1])
+        self.assertEqual(answers([0, 1, 0, 0, 1, 1, 2, 3]), [1, 1, 1, 2, 1, 1])
+        self.assertEqual(answers([0, 2, 1, 1, 1, 1, 6, 0, 1, 2]), [1, -1, 1, -1, 1, -1])
+
+    def test_each_call_alone_is_a_first_call(self):
+        self.assertEqual(answers([0, 0]), [1, 1])
+        self.assertEqual(answers([1, 1, 2, 0]), [1, -1])
+        self.assertEqual(answers([2, 1, 2, 0]), [1, -1])
+        self.assertEqual(answers([3, 1, 2, 3, 0]), [1, -6])
+        self.assertEqual(answers([4, 1, 2, 3, 0]), [1, -6])
+        self.assertEqual(answers([5, 1, 1, 0]), [1, -6])
+        self.assertEqual(answers([6, 0, 1, 2]), [1, -1])
+
+    def test_the_right_stands_first_in_can_and_last_in_the_others(self):
+        self.assertEqual(ask_all(new(1), new(1), [1, 1, 2, 3], [6, 3, 1, 2], [6, 2, 1, 3]), [1, 2, 1, 1, -1])
+        self.assertEqual(ask_all(new(1), new(1), [1, 2, 1, 0], [2, 2, 1, 0]), [1, 2, 1, 0])
+
+    def test_many_calls_in_one_list(self):
+        self.assertEqual(ask_all(*SESSION), SESSION_ANSWERS)
+
+    def test_rows_of_every_length_are_read_to_their_end(self):
+        for length in range(21):
+            row = list(range(length))
+            made = 2 if length <= 4 else -1
+            self.assertEqual(answers([0, 1, 5, 1, 0, length] + row + [0, 0]), [1, 1, 1, made, 1, 3 if made == 2 else 2])
+
+    def test_refused_rows_are_read_to_their_end(self):
+        self.assertEqual(ask_all(make(1, 0, [0, 1]), make(1, 2, [1, 0, BIG]), new(1), new(0)), [-6, -1, 1, 2])
+
+    def test_forty_calls(self):
+        self.assertEqual(ask_all(*[new(2)] * 30, *[new(1)] * 10), [-1] * 30 + list(range(1, 11)))
+
+    def test_the_list_handed_in_stays_as_it_was(self):
+        for calls in (SESSION, THIRTY, [make(1, 0, [3, 2, 1])]):
+            handed_in = sum(calls, [])
+            before = list(handed_in)
+            answers(handed_in)
+            self.assertEqual(handed_in, before)
+
+    def test_a_second_time_answers_as_the_first(self):
+        handed_in = sum(SESSION, [])
+        first = answers(handed_in)
+        answers(sum(THIRTY, []))
+        self.assertEqual(answers(handed_in), first)
+
+    def test_what_is_given_back_is_a_new_list_of_whole_numbers(self):
+        handed_in = sum(SESSION, [])
+        given = answers(handed_in)
+        self.assertIs(type(given), list)
+        self.assertEqual({type(number) for number in given}, {int})
+        kept = list(given)
+        given.clear()
+        self.assertEqual(answers(handed_in), kept)
+
+
+if __name__ == "__main__":
+    unittest.main()
