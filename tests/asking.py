@@ -33,6 +33,35 @@ def can(r, x, y):
     return [6, r, x, y]
 
 
+def steal(r, x, y):
+    return [7, r, x, y]
+
+
+def who(r, y):
+    return [8, r, y]
+
+
+def what(x):
+    return [9, x]
+
+
+def near(x):
+    return [10, x]
+
+
+def fewest(r, x, y):
+    return [11, r, x, y]
+
+
+def edges():
+    return [12]
+
+
+def graph(kinds, *rows):
+    """The calls that bring about this graph: a letter for each one, s for a subject and t for a thing; then edges."""
+    return [new(1 if kind == "s" else 0) for kind in kinds] + [put(*row) for row in rows]
+
+
 def split_answers(given):
     """Each answer as a list of its own, told apart by how many numbers it is said to have."""
     found = []
@@ -61,6 +90,25 @@ def ask_all(*calls):
 def ask_last(*calls):
     """The number that is answered to the last of these calls."""
     return ask_all(*calls)[-1]
+
+
+def ask_row(*calls):
+    """All that is answered to the last of these calls."""
+    return ask(*calls)[-1]
+
+
+def flat(rows):
+    """How many rows, then their numbers: the way in which rows are answered."""
+    return [len(rows)] + [number for row in rows for number in row]
+
+
+def shown(*calls):
+    """The edges in their order, who is there and who is a subject after these calls, told by calls that ask."""
+    told = [ask_row(*calls, edges())]
+    for x in range(1, 11):
+        told.append(ask_row(*calls, near(x)))
+        told.append(ask_row(*calls, what(x)))
+    return told
 
 
 def state(*calls):

@@ -3,13 +3,8 @@
 import itertools
 import unittest
 
-from asking import BIG, THIRTY, ask_all, ask_last, can, cut, give, make, new, put, state, take
+from asking import BIG, THIRTY, ask_all, ask_last, can, cut, give, graph, make, new, put, state, take
 from by_steps import edges_that_can_be
-
-
-def graph(kinds, *edges):
-    """The calls that bring about this graph: a letter for each one, s for a subject and t for a thing."""
-    return [new(1 if kind == "s" else 0) for kind in kinds] + [put(*edge) for edge in edges]
 
 
 class Cases(unittest.TestCase):
